@@ -251,7 +251,7 @@ func TestAngleTurns(t *testing.T) {
 		return impl.AngleTurns(at(wideBits(i)), at(uint32(i)*2654435761))
 	}), 0x9258cf04)
 	want(t, "checksum over numbers near 0", checkOfAll(func(i int) float32 {
-		return impl.AngleTurns(float32(i*7919%2001-1000), float32(i*104729%2003-1001))
+		return impl.AngleTurns(float32(i*7919%2001-1000), float32(int64(i)*104729%2003-1001))
 	}), 0x365110bd)
 }
 
