@@ -176,6 +176,10 @@ func textOfResult(result any, ok bool) string {
 			text += textOfPicture(p) + "; "
 		}
 		return fmt.Sprint(text, ok)
+	case impl.Volume:
+		return fmt.Sprint(textOfVolume(r), ok)
+	case impl.Map:
+		return fmt.Sprint(textOfMap(r), ok)
 	case []float32:
 		return fmt.Sprint(bitsOfList(r), ok)
 	case float32:

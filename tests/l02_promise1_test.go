@@ -18,6 +18,10 @@ func noneOf(result any) any {
 		return impl.Picture{}
 	case []impl.Picture:
 		return []impl.Picture{}
+	case impl.Volume:
+		return impl.Volume{}
+	case impl.Map:
+		return impl.Map{}
 	case []float32:
 		return make([]float32, len(r))
 	case []int64:
