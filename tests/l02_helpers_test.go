@@ -184,6 +184,10 @@ func textOfResult(result any, ok bool) string {
 		return fmt.Sprint(bitsOfList(r), ok)
 	case float32:
 		return fmt.Sprint(bitsOf(r), ok)
+	case solvedRow:
+		return fmt.Sprint(r.row, bitsOf(r.cost), ok)
+	case improvedMap:
+		return fmt.Sprint(textOfMap(r.plan), r.changes, ok)
 	}
 	return fmt.Sprint(result, ok)
 }

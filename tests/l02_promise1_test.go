@@ -28,6 +28,10 @@ func noneOf(result any) any {
 		return []int64{}
 	case float32:
 		return float32(0)
+	case solvedRow:
+		return solvedRow{}
+	case improvedMap:
+		return improvedMap{}
 	}
 	return int64(0)
 }

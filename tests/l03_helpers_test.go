@@ -3,6 +3,7 @@ package tests
 import (
 	"fmt"
 	"math"
+	"slices"
 	"testing"
 
 	"loop.example/g01223/impl"
@@ -68,7 +69,10 @@ func textOfMap(m impl.Map) string {
 func wantVolume(t *testing.T, what string, got impl.Volume, ok bool, wanted impl.Volume) {
 	t.Helper()
 	want(t, what+" succeeds", ok, true)
-	want(t, what, textOfVolume(got), textOfVolume(wanted))
+	// Texts of great volumes take long, and most of them are equal.
+	if got.Wide != wanted.Wide || got.High != wanted.High || got.Deep != wanted.Deep || !slices.Equal(bitsOfList(got.Costs), bitsOfList(wanted.Costs)) {
+		t.Errorf("%s: got %s, want %s", what, textOfVolume(got), textOfVolume(wanted))
+	}
 }
 
 // wantNoVolume checks a result of a function that fails.

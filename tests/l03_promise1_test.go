@@ -75,6 +75,14 @@ func overwrite(result any) {
 		fillUp(r.Values)
 	case impl.Picture:
 		fillUp(r.Greys)
+	case []float32:
+		fillUp(r)
+	case []int64:
+		fillList(r)
+	case solvedRow:
+		fillList(r.row)
+	case improvedMap:
+		fillUp(r.plan.Values)
 	}
 }
 
