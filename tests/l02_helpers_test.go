@@ -188,6 +188,10 @@ func textOfResult(result any, ok bool) string {
 		return fmt.Sprint(r.row, bitsOf(r.cost), ok)
 	case improvedMap:
 		return fmt.Sprint(textOfMap(r.plan), r.changes, ok)
+	case filledMap:
+		return fmt.Sprint(textOfMap(r.plan), r.rounds, ok)
+	case patchList:
+		return fmt.Sprint(r.patches, r.sizes, ok)
 	}
 	return fmt.Sprint(result, ok)
 }

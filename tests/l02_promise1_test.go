@@ -32,6 +32,10 @@ func noneOf(result any) any {
 		return solvedRow{}
 	case improvedMap:
 		return improvedMap{}
+	case filledMap:
+		return filledMap{}
+	case patchList:
+		return patchList{}
 	}
 	return int64(0)
 }

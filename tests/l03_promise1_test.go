@@ -83,6 +83,11 @@ func overwrite(result any) {
 		fillList(r.row)
 	case improvedMap:
 		fillUp(r.plan.Values)
+	case filledMap:
+		fillUp(r.plan.Values)
+	case patchList:
+		fillList(r.patches)
+		fillList(r.sizes)
 	}
 }
 
