@@ -193,7 +193,7 @@ func textOfResult(result any, ok bool) string {
 	case patchList:
 		return fmt.Sprint(r.patches, r.sizes, ok)
 	}
-	return fmt.Sprint(result, ok)
+	return fmt.Sprint(textOfScene(result), ok)
 }
 
 func pictureCalls() []pictureCall {

@@ -37,7 +37,7 @@ func noneOf(result any) any {
 	case patchList:
 		return patchList{}
 	}
-	return int64(0)
+	return noneOfScene(result)
 }
 
 func TestFunctionsFailForInvalidPictures(t *testing.T) {

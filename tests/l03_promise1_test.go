@@ -88,6 +88,8 @@ func overwrite(result any) {
 	case patchList:
 		fillList(r.patches)
 		fillList(r.sizes)
+	default:
+		overwriteScene(result)
 	}
 }
 
