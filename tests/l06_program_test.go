@@ -31,7 +31,7 @@ var sceneHashes = []struct {
 	{"opposite", [patchyKinds]uint64{0x1f9a7c9dd834588b, 0x97c561e062a9385f, 0x0384af91474c08b3, 0xbd4e8c5311e473b9, 0x12074775d3568e5c, 0x1f9a7c9dd834588b}},
 	{"leads", [patchyKinds]uint64{0x92c7fefcd7cecbaa, 0x52e0288d32a7dadc, 0x6dec8297abce0017, 0x86758b17827e3cfb, 0xadece17286ce6a25, 0x5bd52d6d81de4566}},
 	{"bend", [patchyKinds]uint64{0x7998b92d075a0d0f, 0x2e62c52946bfbff8, 0x909a7e2f5f463efd, 0x3ef2e134c8d484fd, 0x2922573136346e98, 0x0bfe4017f8e047c4}},
-	{"offset", [patchyKinds]uint64{0x9a08e9e333eb7edc, 0x6bea5292c737d8a9, 0xe041011e265d7b65, 0x452c33ff8c7c181d, 0x45d66c6c2ba375c3, 0x1856f1a4c7451605}},
+	{"offset", [patchyKinds]uint64{0x9a08e9e333eb7edc, 0x177ffb3d54ce6d37, 0xd0cd423594f175ac, 0x452c33ff8c7c181d, 0x45d66c6c2ba375c3, 0x1856f1a4c7451605}},
 	{"back", [patchyKinds]uint64{0xdad2be0673734069, 0x07b01844fdfefff1, 0xe35f266597aed0e5, 0x2747f26a30dcff60, 0xc93aa7bebdb8dcc2, 0x8306227dc6f2a813}},
 }
 

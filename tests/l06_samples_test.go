@@ -196,20 +196,23 @@ func TestRowOffset(t *testing.T) {
 		{"equal sums, the first two rows", column(0, 4, 4), column(4, 4, 0), 2, -2, bitsFour},
 		// Sums go cell by cell, in order.
 		{"rounded sums", column(1<<24, 1, 1), column(0, 0, 0), 0, 0, bitsWhole},
+		{"rounded sums of four cells", column(1<<24, 1, 1, 1), column(0, 0, 0, 0), 0, 0, bitsWhole},
 		{"sums with a great number at the end", column(1, 1, 1<<24), column(0, 0, 0), 0, 0, 0x4b800001},
 		{"rounded sums by rows", pictureOf(2, 1, 1<<24, 1, 0), pictureOf(2, 0, 0, 0, 0), 0, 0, bitsWhole},
 		{"sums that are too great", bits(bitsMost, bitsMost), column(0, 0), 0, 0, bitsInf},
 		{"infinite differences", bits(bitsInf, bitsOne), column(0, 0), 0, 0, bitsInf},
 		{"absolute values", column(1, -1), column(0, 0), 0, 0, bitsTwo},
 		{"zeros", bits(bitsNull), bits(0), 0, 0, 0},
-		// Not-a-numbers are left out.
-		{"a not-a-number", bits(nanBits, bitsOne), column(7, 3), 0, 0, bitsTwo},
-		{"infinities on both sides", bits(bitsInf, bitsOne), bits(bitsInf, bitsThree), 0, 0, bitsTwo},
-		{"a not-a-number on the other side", bits(bitsFive, bitsOne), bits(bitsThree, 0xff800001), 0, 0, bitsTwo},
-		// Offsets without any other differences have no sum.
-		{"an offset without numbers", bits(bitsOne, nanBits), bits(nanBits, bitsThree), 1, 1, bitsTwo},
-		{"offsets without numbers on one side", bits(nanBits, bitsFive), bits(bitsTwo, nanBits), 1, -1, bitsThree},
-		{"offsets without numbers before others", bits(bitsOne, bitsOne, bitsOne), bits(nanBits, nanBits, bitsSeven), 2, 0, 0x40c00000},
+		// A sum with a not-a-number is one, and is left out of the sums.
+		{"a not-a-number above", column(0, 0), bits(nanBits, bitsOne), 1, 1, bitsTwo},
+		{"a not-a-number above, and the other cells alone have the same sum", column(1, 5), bits(nanBits, bitsOne), 1, 1, bitsFour},
+		{"a not-a-number below", column(1, 1), bits(bitsThree, 0xff800001), 1, -1, bitsFour},
+		{"a not-a-number between others", column(1, 2, 3), bits(bitsFour, nanBits, bitsTwo), 2, 2, bitsTwo},
+		{"a not-a-number in one of two columns", pictureOf(2, 1, 2, 3, 4), pictureAt(2, nanBits, bitsTwo, bitsThree, bitsFour), 1, 1, bitsFour},
+		{"sums of not-a-numbers before one sum", column(1, 1, 1), bits(nanBits, nanBits, bitsSeven), 2, 2, 0x41900000},
+		{"an infinite sum behind not-a-numbers", column(0, 0), bits(nanBits, bitsInf), 1, 1, bitsInf},
+		{"an infinity less itself at one offset", bits(0, bitsInf), bits(bitsInf, 0), 1, 0, bitsInf},
+		{"infinities less themselves at some offsets", bits(bitsInf, bitsOne), bits(bitsInf, bitsThree), 1, 1, bitsInf},
 	} {
 		rows, sum, ok := impl.RowOffset(c.a, c.b, c.most)
 		wantNumber(t, "sum of RowOffset of "+c.what, sum, ok, c.sum)
@@ -241,6 +244,64 @@ func TestRowOffsetOfNothing(t *testing.T) {
 	}
 }
 
+// Where some differences are numbers, but no sum is one, there is no offset.
+func TestRowOffsetWithoutSums(t *testing.T) {
+	column := func(greys ...float32) impl.Picture { return pictureOf(1, greys...) }
+	bits := func(list ...uint32) impl.Picture { return pictureAt(1, list...) }
+	for _, c := range []struct {
+		what string
+		a, b impl.Picture
+		most int64
+	}{
+		{"a not-a-number in the first row of a", bits(nanBits, bitsThree), column(1, 2), 0},
+		{"a not-a-number in a, and any offset", bits(nanBits, bitsThree), column(1, 2), 8},
+		{"a not-a-number in the last row of a", bits(bitsThree, bitsOne, 0xff800001), column(1, 2, 3), 8},
+		{"not-a-numbers in both", bits(bitsOne, nanBits), bits(nanBits, bitsThree), 1},
+		{"a not-a-number in the first row of b", column(5, 1), bits(nanBits, bitsThree), 0},
+		{"a not-a-number in the last row of b", column(5, 1), bits(bitsThree, 0xff800001), 0},
+		{"a not-a-number in the row that all offsets have", column(1, 2, 3), bits(bitsFour, nanBits, bitsTwo), 1},
+		{"an infinity less itself", bits(bitsInf, bitsOne), bits(bitsInf, bitsThree), 0},
+		{"a negative infinity less itself", bits(bitsThree, bitsLess), bits(bitsOne, bitsLess), 0},
+		{"a not-a-number in one of two columns", pictureAt(2, bitsOne, nanBits, bitsOne, bitsOne), pictureOf(2, 1, 2, 3, 4), 8},
+	} {
+		rows, sum, ok := impl.RowOffset(c.a, c.b, c.most)
+		wantNoNumber(t, "RowOffset with "+c.what, sum, ok)
+		want(t, "rows of RowOffset with "+c.what, rows, 0)
+	}
+}
+
+// sumWithRowsOff tells the sum of RowOffset of one offset.
+func sumWithRowsOff(a, b impl.Picture, rows int64) float32 {
+	sum := float32(0)
+	for i := range a.Wide * a.High {
+		x, y := i%a.Wide, i/a.Wide
+		sum += max(cellOf(a, x, y)-cellOf(b, x, y+rows), cellOf(b, x, y+rows)-cellOf(a, x, y))
+	}
+	return sum
+}
+
+// An offset is found among those that keep clear of the row with a not-a-number.
+func TestRowOffsetBesideNotANumbers(t *testing.T) {
+	for i, size := range sizes() {
+		a, b := made(madeFew, size[0], size[1], i), made(madeFew, size[0], size[1], i+1)
+		most, row := int64(i%9), int64(i)%size[1]
+		found, wantedRows, wanted := false, int64(0), float32(0)
+		for k := -most; k <= most; k++ {
+			first, last := min(max(0, k), size[1]-1), max(0, min(size[1]-1, size[1]-1+k))
+			isClear := row < first || row > last
+			if sum := sumWithRowsOff(a, b, k); isClear && (!found || sum < wanted) {
+				found, wantedRows, wanted = true, k, sum
+			}
+		}
+		b.Greys[row*size[0]+int64(i)%size[0]] = at(nanBits)
+		rows, sum, ok := impl.RowOffset(a, b, most)
+		what := fmt.Sprintf("RowOffset %v with at most %d and a not-a-number in the row %d", size, most, row)
+		want(t, what+" succeeds", ok, found)
+		want(t, what, rows, wantedRows)
+		wantBits(t, "sum of "+what, sum, bitsOf(wanted))
+	}
+}
+
 // A picture that is some rows further is found to be so.
 func TestRowOffsetOfShiftedPictures(t *testing.T) {
 	for _, size := range sizes() {
@@ -254,13 +315,9 @@ func TestRowOffsetOfShiftedPictures(t *testing.T) {
 				b.Greys = append(b.Greys, cellOf(a, i%size[0], i/size[0]-by))
 			}
 			rows, sum, ok := impl.RowOffset(a, b, 8)
-			// The rows at the end stand for those that are gone, and others do not.
-			wanted := float32(0)
-			for i := range size[0] * size[1] {
-				wanted += max(a.Greys[i]-cellOf(b, i%size[0], i/size[0]+by), cellOf(b, i%size[0], i/size[0]+by)-a.Greys[i])
-			}
 			want(t, fmt.Sprint("RowOffset of a picture ", size, " by ", by), rows, by)
-			wantNumber(t, "sum of RowOffset", sum, ok, bitsOf(wanted))
+			// The rows at the end stand for those that are gone, and others do not.
+			wantNumber(t, "sum of RowOffset", sum, ok, bitsOf(sumWithRowsOff(a, b, by)))
 		}
 	}
 }
