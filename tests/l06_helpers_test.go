@@ -60,7 +60,7 @@ func textOfScene(result any) string {
 	case rowOffset:
 		return fmt.Sprint(r.rows, bitsOf(r.sum))
 	}
-	return fmt.Sprint(result)
+	return textOfWork(result)
 }
 
 // noneOfScene returns what functions of this chapter return that fail.
@@ -79,7 +79,7 @@ func noneOfScene(result any) any {
 	case rowOffset:
 		return rowOffset{}
 	}
-	return int64(0)
+	return noneOfWork(result)
 }
 
 // overwriteScene changes all numbers of a result of this chapter.
@@ -95,6 +95,8 @@ func overwriteScene(result any) {
 		}
 	case bestPlane:
 		fillList(r.set)
+	default:
+		overwriteWork(result)
 	}
 }
 
